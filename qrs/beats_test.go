@@ -61,12 +61,14 @@ func TestAtAndSeen(t *testing.T) {
 	}
 }
 
-// P19.2: At is 0 of one below 0: just there; written out: the start, the place of the first beat's peak, which is seen at step Learn, and its At.
-func TestAtBelowZero(t *testing.T) {
+// P19.2: of a place that is less than Delay behind the start At is the start: just of those; written out: the start, the place of the first beat's peak, which is seen at step Learn, and its At.
+func TestAtNotAheadOfTheStart(t *testing.T) {
 	for _, c := range []struct{ start, place, at int64 }{
 		{0, 1, 0}, {0, 2, 0}, {0, 36, 0}, {0, 37, 0}, {0, 38, 0}, {0, 39, 1}, {0, 40, 2}, {0, 399, 361},
-		{1, 36, 0}, {1, 37, 0}, {1, 38, 1}, {1, 39, 2}, {20, 17, 0}, {20, 18, 0}, {20, 19, 1}, {35, 1, 0}, {36, 1, 0}, {37, 1, 0}, {38, 1, 1}, {38, 2, 2}, {39, 1, 2},
-		{-5, 37, 0}, {-5, 38, 0}, {-5, 39, 1}, {-1000, 39, 1}, {least, 39, 1}, {1000, 1, 963}, {maxAt, 1, 1099511627739}, {most, 1, 1099511627739},
+		{1, 1, 1}, {1, 36, 1}, {1, 37, 1}, {1, 38, 1}, {1, 39, 2}, {20, 17, 20}, {20, 18, 20}, {20, 19, 20}, {20, 38, 20}, {20, 39, 21}, {35, 1, 35}, {36, 1, 36}, {37, 1, 37}, {37, 37, 37}, {38, 1, 38}, {38, 2, 38}, {39, 1, 39}, {39, 39, 40},
+		{1000, 1, 1000}, {1000, 2, 1000}, {1000, 37, 1000}, {1000, 38, 1000}, {1000, 39, 1001}, {1000, 100, 1062}, {1000, 399, 1361},
+		{-5, 1, 0}, {-5, 37, 0}, {-5, 38, 0}, {-5, 39, 1}, {-1000, 39, 1}, {least, 1, 0}, {least, 39, 1},
+		{maxAt - 1, 1, 1099511627775}, {maxAt, 1, 1099511627776}, {maxAt, 38, 1099511627776}, {maxAt, 39, 1099511627777}, {most, 1, 1099511627776}, {most, 39, 1099511627777},
 	} {
 		h := heldOf(t, c.start)
 		h.wide(t, c.place, 400-c.place, 1000, 30)
@@ -75,6 +77,19 @@ func TestAtBelowZero(t *testing.T) {
 		// Its place is what the next one's distance goes by, and not its At.
 		h.peak(t, 450, 1000, 30)
 		h.told(t, api.Beat{At: start + 412, Seen: start + 451, RR: 450 - c.place})
+	}
+}
+
+// P19.2: so it is behind Reset, too: the start is then where it begins anew.
+func TestAtNotAheadOfTheStartBehindReset(t *testing.T) {
+	h := heldOf(t, 1000)
+	for _, start := range []int64{5000, 30, 0, 1 << 32, 1000} {
+		for _, place := range []int64{1, 37, 38, 39} {
+			h.reset(t)
+			h.start = start
+			h.wide(t, place, 400-place, 1000, 30)
+			h.told(t, api.Beat{At: start + place/39, Seen: start + 400})
+		}
 	}
 }
 

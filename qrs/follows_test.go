@@ -6,7 +6,7 @@ import (
 	"systole/api"
 )
 
-// P19.4 and P19.5, and what a beat may be at all: none is told in the first Learn steps; each one but the first is at least Refr behind the one ahead; each one's Seen is that of the step at which it is told, and not ahead of where its peak is.
+// P19.4 and P19.5, and what a beat may be at all: none is told in the first Learn steps; each one but the first is at least Refr behind the one ahead; none is ahead of the start; each one's Seen is that of the step at which it is told, and not ahead of where its peak is.
 func TestApart(t *testing.T) {
 	for kind := range kinds {
 		s := source{noise: noise(50 + kind)}
@@ -24,9 +24,9 @@ func TestApart(t *testing.T) {
 						t.Fatalf("at step %d: %v", n, b)
 					case beats == 0 && b.RR != 0 || beats > 0 && (b.RR < 40 || b.At-last.At < 40):
 						t.Fatalf("%v behind %v", b, last)
-					case b.Seen != start+n || b.At < 0 || b.At > 0 && b.At+38 >= b.Seen:
+					case b.Seen != start+n || b.At < start || b.At > start && b.At+38 >= b.Seen:
 						t.Fatalf("at %d: %v", start+n, b)
-					case beats > 0 && last.At > 0 && b.At-last.At != b.RR:
+					case beats > 0 && last.At > start && b.At-last.At != b.RR:
 						t.Fatalf("%v behind %v", b, last)
 					}
 					last = b

@@ -112,10 +112,11 @@ func (r *reckoning) judge(n int64, p api.Peak) []api.Beat {
 
 // beat is a peak as a beat.
 func (r *reckoning) beat(n int64, p api.Peak, back bool) api.Beat {
-	b := api.Beat{At: r.start + p.At - 38, Seen: r.start + n, Back: back}
-	if b.At < 0 {
-		b.At = 0
+	behind := p.At - 38
+	if behind < 0 {
+		behind = 0
 	}
+	b := api.Beat{At: r.start + behind, Seen: r.start + n, Back: back}
 	if len(r.last) > 0 {
 		b.RR = p.At - r.last[0].At
 		r.rrs = append(r.rrs, b.RR)
@@ -315,7 +316,7 @@ func beating(t *testing.T, gap, slope int64) *held {
 
 // at is a beat of a peak at a step, that was told at a step, of samples from 1000 on.
 func at(step, told, rr int64) api.Beat {
-	return api.Beat{At: 962 + step, Seen: 1000 + told, RR: rr}
+	return api.Beat{At: max(962+step, 1000), Seen: 1000 + told, RR: rr}
 }
 
 // back is such a beat that was found by looking back.
